@@ -1,0 +1,92 @@
+"""The rules of the language that are easily looked at: every file of the package keeps to them."""
+
+import ast
+import builtins
+import pathlib
+import re
+import unittest
+
+PACKAGE = pathlib.Path(__file__).resolve().parent.parent / "unturned"
+FILES = sorted(path for path in PACKAGE.iterdir() if path.name != "__pycache__")
+BUILTINS = set("""len range enumerate zip min max sum abs sorted reversed int str bool bytes list tuple dict set frozenset
+isinstance ord repr any all divmod Exception ValueError KeyError IndexError LookupError ZeroDivisionError iter next""".split())
+WORDS = """type typing typing_extensions enum Enum IntEnum StrEnum Flag IntFlag Generic Protocol ABC ABCMeta namedtuple
+NamedTuple TypedDict TYPE_CHECKING abstractmethod""".split()
+NEVER = set("register mro elements open input law version_info with_traceback add_note format format_map".split())
+
+
+def names_of(tree):
+    """All names that the file binds or calls by, and attributes."""
+    for node in ast.walk(tree):
+        if isinstance(node, ast.Name):
+            yield node.id
+        elif isinstance(node, ast.Attribute):
+            yield node.attr
+        elif isinstance(node, ast.arg):
+            yield node.arg
+        elif isinstance(node, (ast.FunctionDef, ast.ClassDef)):
+            yield node.name
+
+
+class Language(unittest.TestCase):
+    def trees(self):
+        return [(path.name, ast.parse(path.read_text(encoding="utf-8"))) for path in FILES]
+
+    def test_files(self):
+        self.assertIn("__init__.py", [path.name for path in FILES])
+        for path in FILES:
+            self.assertRegex(path.name, r"^[a-z_][a-z0-9_]*\.py$")
+            text = path.read_text(encoding="utf-8")
+            lines = text.split("\n")
+            self.assertLessEqual(len(lines), 400, path.name)
+            self.assertLessEqual(max(map(len, lines)), 120, path.name)
+            self.assertRegex(text, r"\A[ -~\n]*\Z", path.name)
+            for word in WORDS:
+                self.assertIsNone(re.search(rf"\b{word}\b", text), (path.name, word))
+            self.assertIsNone(re.search("dataclass|overload|contextmanager", text), path.name)
+
+    def test_functions_are_short(self):
+        for file, tree in self.trees():
+            for node in ast.walk(tree):
+                if isinstance(node, ast.FunctionDef):
+                    self.assertLessEqual(node.end_lineno - node.lineno + 1, 40, (file, node.name))
+
+    def test_imports_and_module_level(self):
+        for file, tree in self.trees():
+            for node in tree.body:
+                self.assertIsInstance(node, (ast.ImportFrom, ast.FunctionDef, ast.ClassDef, ast.Assign, ast.Expr))
+                if isinstance(node, ast.Expr):
+                    self.assertIsInstance(node.value, ast.Constant)
+            for node in ast.walk(tree):
+                self.assertNotIsInstance(node, (ast.Import, ast.Global, ast.Div))
+                if isinstance(node, ast.ImportFrom):
+                    self.assertEqual(node.level, 0)
+                    self.assertTrue(node.module.startswith("unturned."), node.module)
+
+    def test_names(self):
+        for file, tree in self.trees():
+            own = {node.name for node in ast.walk(tree) if isinstance(node, (ast.FunctionDef, ast.ClassDef))}
+            brought = {name.name for node in ast.walk(tree) if isinstance(node, ast.ImportFrom) for name in node.names}
+            bound = {n.id for n in ast.walk(tree) if isinstance(n, ast.Name) and isinstance(n.ctx, ast.Store)}
+            bound |= {node.arg for node in ast.walk(tree) if isinstance(node, ast.arg)}
+            self.assertFalse(bound & brought, file)
+            self.assertFalse((bound | own) & set(dir(builtins)), file)
+            for name in names_of(tree):
+                self.assertNotIn(name, NEVER, file)
+                self.assertFalse(name.startswith("_") and not name.endswith("__"), name)
+            read = {n.id for n in ast.walk(tree) if isinstance(n, ast.Name) and isinstance(n.ctx, ast.Load)}
+            self.assertLessEqual(read, own | brought | bound | BUILTINS, file)
+            self.assertLessEqual(brought, read, file)
+
+    def test_looks_over_many_take_lists(self):
+        # A class that compares would make rows that are told one by one forbidden there.
+        for file, tree in self.trees():
+            for node in ast.walk(tree):
+                if isinstance(node, ast.Call) and isinstance(node.func, ast.Name):
+                    if node.func.id in ("any", "all", "min", "max", "sum", "sorted"):
+                        for handed in node.args:
+                            self.assertNotIsInstance(handed, ast.GeneratorExp, (file, node.lineno))
+
+
+if __name__ == "__main__":
+    unittest.main()

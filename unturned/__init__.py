@@ -1,0 +1,1 @@
+"""Streams that no walk would turn."""
