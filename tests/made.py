@@ -4,6 +4,8 @@ import copy
 import itertools
 import random
 
+from unturned.bounds import GREAT, HOUSES, ROADS
+
 
 def deep(many, thing=None, wrap=lambda inner: (inner,)):
     """A thing within so many tuples (or what wrap makes)."""
@@ -134,6 +136,52 @@ def any_fair(dice, givers, takers, ties, most_room, most_much, least=0):
 
 def dice_of(seed):
     return random.Random(seed)
+
+
+# Three houses hand things round; each gives and takes by the ring gladly.
+RING = web_of(3, [(0, 1, 4), (1, 2, 3), (2, 0, 2)])
+# Doors, and a ring that houses like less for giving, and better for taking.
+AGAINST = web_of(2, [(None, 0, 3), (0, 1, 9), (1, 0, 9), (1, None, 3)], {1: (3, 2)}, {0: (2, 0)})
+
+
+def swaps(many, houses=4):
+    """Houses two by two that send things to each other by roads that the one likes better as giver, the other as taker."""
+    roads, gives, takes = [], {}, {}
+    for one in range(0, houses, 2):
+        at = len(roads)
+        roads += [(one, one + 1, many), (one, one + 1, many), (one + 1, one, many), (one + 1, one, many)]
+        gives[one], takes[one + 1] = (at, at + 1), (at + 1, at)
+        gives[one + 1], takes[one] = (at + 2, at + 3), (at + 3, at + 2)
+    return web_of(houses, roads, gives, takes)
+
+
+def small_webs():
+    dice = dice_of(41)
+    for turn in range(60):
+        yield any_web(dice, dice.randint(1, 3), dice.randint(1, 6), 2, outside=dice.randint(1, 3))
+    for turn in range(30):
+        yield any_web(dice, dice.randint(2, 4), dice.randint(4, 7), 1, least=1)
+    for turn in range(15):
+        yield any_web(dice, dice.randint(2, 4), dice.randint(3, 7), 1, outside=0, least=1)
+    for web in (web_of(1, [(None, 0, 0)]), web_of(1, [(None, 0, 2)]), web_of(1, [(0, None, 2)]), web_of(2, [(0, 1, 3)]),
+                RING, AGAINST, swaps(2, 2), swaps(1)):
+        yield web
+
+
+def great_webs():
+    dice = dice_of(42)
+    for outside in (0, 1, 2, 6):
+        for turn in range(12):
+            yield any_web(dice, HOUSES, ROADS, GREAT, outside=outside)
+            yield any_web(dice, HOUSES, ROADS, GREAT, outside=outside, least=GREAT - 5)
+            yield any_web(dice, dice.randint(2, 4), ROADS, GREAT, outside=outside, least=GREAT // 2)
+    yield swaps(GREAT)
+    yield swaps(GREAT, HOUSES)
+    yield web_of(HOUSES, [(k % 8, (k + 1) % 8, GREAT) for k in range(ROADS)])
+    yield web_of(1, [(None, 0, GREAT)] * 19 + [(0, None, GREAT)])
+    yield web_of(1, [(None, 0, GREAT)] + [(0, None, GREAT)] * 19)
+    yield web_of(2, [(None, 0, 1), (0, 1, GREAT), (1, 0, GREAT), (1, None, 1)], {1: (3, 2)}, {0: (2, 0)})
+    yield web_of(2, [(None, 0, 1), (0, 1, GREAT), (1, 0, GREAT), (1, None, 1)], {1: (2, 3)}, {0: (0, 2)})
 
 
 # Plain looks, written from the document alone.

@@ -12,6 +12,17 @@ BUILTINS = set("""len range enumerate zip min max sum abs sorted reversed int st
 isinstance ord repr any all divmod Exception ValueError KeyError IndexError LookupError ZeroDivisionError iter next""".split())
 WORDS = """type typing typing_extensions enum Enum IntEnum StrEnum Flag IntFlag Generic Protocol ABC ABCMeta namedtuple
 NamedTuple TypedDict TYPE_CHECKING abstractmethod""".split()
+# What the document's interface lists for each file, as far as it has been built, with its arguments.
+INTERFACE = {
+    "webs": "webfault(thing) in_doors(web) out_doors(web) doors(web)",
+    "streams": "streamfault(web,thing) nothing(web) through(web,stream) worth(web,stream) at_doors(web,stream)",
+    "walks": "turns(web,stream,thing)",
+    "lots": "calms(web,stream,thing) least_lot(web,stream) greatest_lot(web,stream) is_calm(web,stream)",
+    "fairs": "is_fair(thing) is_sharing(fair,thing) in_all(fair,sharing) loose(fair,sharing) turned_fair(fair)",
+    "settling": "settle(fair) settle_back(fair) trail(fair) trail_holds(fair,thing)",
+    "leading": "fair_of(web) sharing_of(web,stream,lot) stream_of(web,sharing) calm(web) last_calm(web)",
+    "rooms": "door_row(web) with_room(web,road,room) change(web,road)",
+}
 NEVER = set("register mro elements open input law version_info with_traceback add_note format format_map".split())
 
 
@@ -77,6 +88,14 @@ class Language(unittest.TestCase):
             read = {n.id for n in ast.walk(tree) if isinstance(n, ast.Name) and isinstance(n.ctx, ast.Load)}
             self.assertLessEqual(read, own | brought | bound | BUILTINS, file)
             self.assertLessEqual(brought, read, file)
+
+    def test_interface_stands_in_its_files(self):
+        trees = dict(self.trees())
+        for file, listed in INTERFACE.items():
+            own = {node.name: ast.unparse(node.args).replace(" ", "") for node in trees[file + ".py"].body
+                   if isinstance(node, ast.FunctionDef)}
+            for name, handed in re.findall(r"(\w+)\(([^)]*)\)", listed):
+                self.assertEqual(own.get(name), handed, (file, name))
 
     def test_looks_over_many_take_lists(self):
         # A class that compares would make rows that are told one by one forbidden there.

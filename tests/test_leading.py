@@ -1,7 +1,7 @@
 import unittest
 
-from tests.made import (all_lots, all_streams, any_web, dice_of, plain_calm, plain_calms, plain_loose, plain_sharing,
-                        plain_stream, row_of, unchanged, web_of)
+from tests.made import (RING, all_lots, all_streams, great_webs, plain_calm, plain_calms, plain_loose, plain_sharing,
+                        plain_stream, row_of, small_webs, unchanged, web_of)
 from unturned.bounds import FAR, GREAT, HOUSES, ROADS, SEATS, TIES
 from unturned.fairs import is_fair
 from unturned.leading import calm, fair_of, last_calm, sharing_of, stream_of
@@ -10,21 +10,6 @@ from unturned.settling import settle, settle_back
 # In to house 0 by 0, to house 1 by 4; between them by 1, 2 and 5; out of house 1 by 3.
 ORDINARY = web_of(2, [(None, 0, 5), (0, 1, 4), (0, 1, 3), (1, None, 2), (None, 1, 1), (1, 0, 6)],
                   {0: (2, 1), 1: (5, 3)}, {0: (5, 0), 1: (4, 2, 1)})
-# Three houses hand things round; each gives and takes by the ring gladly.
-RING = web_of(3, [(0, 1, 4), (1, 2, 3), (2, 0, 2)])
-# Doors, and a ring that houses like less for giving, and better for taking.
-AGAINST = web_of(2, [(None, 0, 3), (0, 1, 9), (1, 0, 9), (1, None, 3)], {1: (3, 2)}, {0: (2, 0)})
-
-
-def swaps(many, houses=4):
-    """Houses two by two that send things to each other by roads that the one likes better as giver, the other as taker."""
-    roads, gives, takes = [], {}, {}
-    for one in range(0, houses, 2):
-        at = len(roads)
-        roads += [(one, one + 1, many), (one, one + 1, many), (one + 1, one, many), (one + 1, one, many)]
-        gives[one], takes[one + 1] = (at, at + 1), (at + 1, at)
-        gives[one + 1], takes[one] = (at + 2, at + 3), (at + 3, at + 2)
-    return web_of(houses, roads, gives, takes)
 
 
 def plain_fair_of(web):
@@ -46,35 +31,6 @@ def plain_fair_of(web):
     givers += [(roads[k][2], (k,)) for k in coming]
     takers += [(roads[k][2], (k,)) for k in going]
     return (tuple(ties), tuple(givers), tuple(takers))
-
-
-def small_webs():
-    dice = dice_of(41)
-    for turn in range(60):
-        yield any_web(dice, dice.randint(1, 3), dice.randint(1, 6), 2, outside=dice.randint(1, 3))
-    for turn in range(30):
-        yield any_web(dice, dice.randint(2, 4), dice.randint(4, 7), 1, least=1)
-    for turn in range(15):
-        yield any_web(dice, dice.randint(2, 4), dice.randint(3, 7), 1, outside=0, least=1)
-    for web in (web_of(1, [(None, 0, 0)]), web_of(1, [(None, 0, 2)]), web_of(1, [(0, None, 2)]), web_of(2, [(0, 1, 3)]),
-                RING, AGAINST, swaps(2, 2), swaps(1)):
-        yield web
-
-
-def great_webs():
-    dice = dice_of(42)
-    for outside in (0, 1, 2, 6):
-        for turn in range(12):
-            yield any_web(dice, HOUSES, ROADS, GREAT, outside=outside)
-            yield any_web(dice, HOUSES, ROADS, GREAT, outside=outside, least=GREAT - 5)
-            yield any_web(dice, dice.randint(2, 4), ROADS, GREAT, outside=outside, least=GREAT // 2)
-    yield swaps(GREAT)
-    yield swaps(GREAT, HOUSES)
-    yield web_of(HOUSES, [(k % 8, (k + 1) % 8, GREAT) for k in range(ROADS)])
-    yield web_of(1, [(None, 0, GREAT)] * 19 + [(0, None, GREAT)])
-    yield web_of(1, [(None, 0, GREAT)] + [(0, None, GREAT)] * 19)
-    yield web_of(2, [(None, 0, 1), (0, 1, GREAT), (1, 0, GREAT), (1, None, 1)], {1: (3, 2)}, {0: (2, 0)})
-    yield web_of(2, [(None, 0, 1), (0, 1, GREAT), (1, 0, GREAT), (1, None, 1)], {1: (2, 3)}, {0: (0, 2)})
 
 
 class FairOf(unittest.TestCase):

@@ -29,3 +29,8 @@ def borne(bears, numbers):
 def has_less_liked(bears, order, number):
     """Whether something is borne by a road, or tie, that stands behind this one in the order."""
     return borne(bears, order[order.index(number) + 1:]) > 0
+
+
+def exchanged(things, at, thing):
+    """The tuple with another thing at this place."""
+    return things[:at] + (thing,) + things[at + 1:]
