@@ -2,6 +2,7 @@
 
 import copy
 import itertools
+import math
 import random
 
 from unturned.bounds import GREAT, HOUSES, ROADS
@@ -74,13 +75,13 @@ def is_int(thing):
     return type(thing) is int
 
 
-def unchanged(test, function, *handed):
+def unchanged(test, function, *handed, **named):
     """Asks twice, sees that both answers are alike and that nothing handed in was changed; tells the answer."""
     kept = copy.deepcopy(handed)
     said = repr(handed)
-    answer = function(*handed)
+    answer = function(*handed, **named)
     told = repr(answer)
-    again = function(*handed)
+    again = function(*handed, **named)
     test.assertEqual(repr(again), told)
     test.assertEqual(repr(answer), told)
     test.assertEqual(handed, kept)
@@ -184,6 +185,29 @@ def great_webs():
     yield web_of(2, [(None, 0, 1), (0, 1, GREAT), (1, 0, GREAT), (1, None, 1)], {1: (2, 3)}, {0: (0, 2)})
 
 
+def many_rows(web):
+    """How many rows of numbers within the rooms there are."""
+    return math.prod(road[2] + 1 for road in web[0])
+
+
+def ringing_webs():
+    """Small webs, many with rings, so that there are several calm streams, with several lots each."""
+    dice = dice_of(43)
+    turn = 0
+    while turn < 70:
+        houses = dice.randint(2, 4)
+        web = any_web(dice, houses, dice.randint(4, 8), dice.choice((1, 1, 2, 3)), outside=dice.choice((0, 0, 1, 2)),
+                      least=dice.randint(0, 1))
+        if many_rows(web) <= 600:
+            turn += 1
+            yield web
+    yield from (RING, AGAINST, swaps(2, 2), swaps(1))
+    # Two ways round, of houses that like them the other way about.
+    yield web_of(3, [(0, 1, 1), (0, 2, 1), (1, 0, 1), (2, 0, 1)], {}, {0: (3, 2)})
+    yield web_of(3, [(0, 1, 1), (0, 2, 1), (1, 0, 1), (2, 0, 1), (None, 0, 1), (0, None, 1)],
+                 {0: (0, 5, 1)}, {0: (3, 4, 2)})
+
+
 # Plain looks, written from the document alone.
 
 def plain_stream(web, stream):
@@ -234,6 +258,11 @@ def plain_calm(web, stream):
     return not any(plain_turns(web, stream, walk) for walk in all_walks(web, stream))
 
 
+def calm_ones(web):
+    """All calm streams, all walks of all streams gone through."""
+    return [stream for stream in all_streams(web) if plain_calm(web, stream)]
+
+
 def plain_calms(web, stream, lot):
     """Whether the lot calms the stream, by [9]."""
     roads, gives, takes = web
@@ -250,6 +279,11 @@ def all_lots(web):
     houses = range(len(web[1]))
     for many in range(len(houses) + 1):
         yield from itertools.combinations(houses, many)
+
+
+def all_pairs(web):
+    """All pairs (stream, lot), a lot that calms the stream."""
+    return [(stream, lot) for stream in all_streams(web) for lot in all_lots(web) if plain_calms(web, stream, lot)]
 
 
 def plain_sharing(fair, sharing):

@@ -22,6 +22,11 @@ INTERFACE = {
     "settling": "settle(fair) settle_back(fair) trail(fair) trail_holds(fair,thing)",
     "leading": "fair_of(web) sharing_of(web,stream,lot) stream_of(web,sharing) calm(web) last_calm(web)",
     "rooms": "door_row(web) with_room(web,road,room) change(web,road)",
+    "pairs": "is_pair(web,thing) liked(web,house,one,other) joined(web,one,other) met(web,one,other)",
+    "others": "turned(web) times(web,k) beside(one,other) cut(web,road) parted(web,road,room) without(web,road) "
+              "liked_less(web,road,*,giving=True) with_like(web,house,order,*,giving=True)",
+    "greatest": "greatest(web) narrow_room(web,lot) narrowest(web) narrow_holds(web,stream,thing) lost(web)",
+    "small": "streams_of(web) calm_streams(web) many_lots(web,stream) bears_at(web,road)",
 }
 NEVER = set("register mro elements open input law version_info with_traceback add_note format format_map".split())
 
