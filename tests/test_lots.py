@@ -161,6 +161,14 @@ class LeastAndGreatest(unittest.TestCase):
             self.assertEqual(self.look_at(web, (GREAT - 1,) * 9), 1)
             self.assertEqual(greatest_lot(web, (GREAT - 1,) * 9), ())
 
+    def test_more_houses_than_roads(self):
+        web = web_of(HOUSES, [(None, HOUSES - 1, 1)])
+        self.assertEqual(least_lot(web, (0,)), (HOUSES - 1,))
+        self.assertEqual(greatest_lot(web, (0,)), tuple(range(HOUSES)))
+        web = web_of(HOUSES, [(HOUSES - 1, None, 1)])
+        self.assertEqual(least_lot(web, (0,)), ())
+        self.assertEqual(greatest_lot(web, (0,)), tuple(range(HOUSES - 1)))
+
     def test_at_the_bounds(self):
         web = web_of(HOUSES, [(k % 8, (k + 1) % 8, GREAT) for k in range(ROADS)])
         # The roads of the first round are liked better: only where they are full the others may bear something.
