@@ -27,7 +27,19 @@ INTERFACE = {
               "liked_less(web,road,*,giving=True) with_like(web,house,order,*,giving=True)",
     "greatest": "greatest(web) narrow_room(web,lot) narrowest(web) narrow_holds(web,stream,thing) lost(web)",
     "small": "streams_of(web) calm_streams(web) many_lots(web,stream) bears_at(web,road)",
+    "bundles": "bundle(web,stream) bundle_holds(web,stream,thing)",
+    "verdicts": "verdict(web,stream) verdict_holds(web,stream,thing)",
 }
+# Likewise of each class: its methods, which stand in the class itself.
+METHODS = {
+    ("halls", "Hall"): "__init__(self,web) lay(self,begin,end,room) shut(self,road) widen(self,road,room) "
+                       "give(self,house,order) take(self,house,order) build(self) raze(self) back(self) "
+                       "tried(self,deeds,*,tell=None) log(self) web(self) deeds(self) calm(self) door_row(self) "
+                       "change(self,road) verdict(self,stream) behind(self,number) twin(self) __len__(self) "
+                       "__eq__(self,other) __str__(self)",
+}
+BUILTIN_METHODS = set("""append copy count endswith extend find get index insert isalnum isalpha isascii isdigit items join keys
+lower pop remove replace setdefault split startswith strip upper values""".split())
 NEVER = set("register mro elements open input law version_info with_traceback add_note format format_map".split())
 
 
@@ -85,6 +97,7 @@ class Language(unittest.TestCase):
             brought = {name.name for node in ast.walk(tree) if isinstance(node, ast.ImportFrom) for name in node.names}
             bound = {n.id for n in ast.walk(tree) if isinstance(n, ast.Name) and isinstance(n.ctx, ast.Store)}
             bound |= {node.arg for node in ast.walk(tree) if isinstance(node, ast.arg)}
+            bound |= {node.name for node in ast.walk(tree) if isinstance(node, ast.ExceptHandler) and node.name}
             self.assertFalse(bound & brought, file)
             self.assertFalse((bound | own) & set(dir(builtins)), file)
             for name in names_of(tree):
@@ -97,10 +110,17 @@ class Language(unittest.TestCase):
     def test_interface_stands_in_its_files(self):
         trees = dict(self.trees())
         for file, listed in INTERFACE.items():
-            own = {node.name: ast.unparse(node.args).replace(" ", "") for node in trees[file + ".py"].body
-                   if isinstance(node, ast.FunctionDef)}
-            for name, handed in re.findall(r"(\w+)\(([^)]*)\)", listed):
-                self.assertEqual(own.get(name), handed, (file, name))
+            self.look_at_functions(file, trees[file + ".py"].body, listed)
+        for (file, name), listed in METHODS.items():
+            bodies = [node.body for node in trees[file + ".py"].body if isinstance(node, ast.ClassDef) and node.name == name]
+            self.assertEqual(len(bodies), 1, (file, name))
+            self.look_at_functions(file, bodies[0], listed)
+
+    def look_at_functions(self, file, body, listed):
+        """Those listed are defined in this body, and take what is listed."""
+        own = {node.name: ast.unparse(node.args).replace(" ", "") for node in body if isinstance(node, ast.FunctionDef)}
+        for name, handed in re.findall(r"(\w+)\(([^)]*)\)", listed):
+            self.assertEqual(own.get(name), handed, (file, name))
 
     def test_looks_over_many_take_lists(self):
         # A class that compares would make rows that are told one by one forbidden there.
@@ -110,6 +130,36 @@ class Language(unittest.TestCase):
                     if node.func.id in ("any", "all", "min", "max", "sum", "sorted"):
                         for handed in node.args:
                             self.assertNotIsInstance(handed, ast.GeneratorExp, (file, node.lineno))
+
+    def test_methods_and_attributes_have_names_of_their_own(self):
+        methods, attributes, read = set(), set(), set()
+        for file, tree in self.trees():
+            for node in ast.walk(tree):
+                if isinstance(node, ast.ClassDef):
+                    methods |= {part.name for part in node.body if isinstance(part, ast.FunctionDef)}
+                if isinstance(node, ast.Attribute):
+                    (attributes if isinstance(node.ctx, ast.Store) else read).add(node.attr)
+        self.assertFalse(methods & attributes)
+        self.assertLessEqual(read, methods | attributes | BUILTIN_METHODS)
+
+    def test_double_underscore_methods_assign_nothing(self):
+        for file, tree in self.trees():
+            for node in ast.walk(tree):
+                if isinstance(node, ast.FunctionDef) and node.name in ("__eq__", "__len__", "__str__"):
+                    self.assertEqual([type(part) for part in node.body], [ast.Return], (file, node.name))
+
+    def test_last_rows_are_plain(self):
+        for file, tree in self.trees():
+            for node in ast.walk(tree):
+                if isinstance(node, ast.Try):
+                    for part in node.finalbody:
+                        self.assertIsInstance(part, (ast.Assign, ast.Expr), (file, part.lineno))
+                        for inner in ast.walk(part):
+                            self.assertNotIsInstance(inner, (ast.Subscript, ast.Compare, ast.BinOp, ast.Return))
+                            if isinstance(inner, ast.Call):
+                                self.assertEqual(inner.func.attr, "append")
+                    for handler in node.handlers:
+                        self.assertIsNotNone(handler.type, (file, handler.lineno))
 
 
 if __name__ == "__main__":

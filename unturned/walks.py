@@ -10,14 +10,24 @@ def turns(web, stream, thing):
 
 def is_walk(web, stream, thing):
     """Whether it is a tuple of roads with room left, each once, each from the house where the one ahead ends."""
+    if not is_path(web, thing):
+        return False
+    return len(set(thing)) == len(thing) and all([has_room(web, stream, road) for road in thing])
+
+
+def is_path(web, thing):
+    """Whether it is a tuple of one road or more, each but the first from the house where the one ahead ends."""
     roads = web[0]
     if not is_tuple_of(thing, 1, len(roads)) or not all([is_number_to(road, len(roads) - 1) for road in thing]):
         return False
-    if len(set(thing)) < len(thing) or not all([stream[road] < roads[road][2] for road in thing]):
-        return False
-    # Outside is no house: a walk that has come there doesn't go on from there.
+    # Outside is no house: what has come there doesn't go on from there.
     return all([roads[ahead][1] is not None and roads[ahead][1] == roads[road][0]
                 for ahead, road in zip(thing, thing[1:])])
+
+
+def has_room(web, stream, road):
+    """Whether the road has room left."""
+    return stream[road] < web[0][road][2]
 
 
 def first_gladly(web, stream, road):
