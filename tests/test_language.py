@@ -12,7 +12,7 @@ BUILTINS = set("""len range enumerate zip min max sum abs sorted reversed int st
 isinstance ord repr any all divmod Exception ValueError KeyError IndexError LookupError ZeroDivisionError iter next""".split())
 WORDS = """type typing typing_extensions enum Enum IntEnum StrEnum Flag IntFlag Generic Protocol ABC ABCMeta namedtuple
 NamedTuple TypedDict TYPE_CHECKING abstractmethod""".split()
-# What the document's interface lists for each file, as far as it has been built, with its arguments.
+# What the document's interface lists for each file, with its arguments.
 INTERFACE = {
     "webs": "webfault(thing) in_doors(web) out_doors(web) doors(web)",
     "streams": "streamfault(web,thing) nothing(web) through(web,stream) worth(web,stream) at_doors(web,stream)",
@@ -29,6 +29,9 @@ INTERFACE = {
     "small": "streams_of(web) calm_streams(web) many_lots(web,stream) bears_at(web,road)",
     "bundles": "bundle(web,stream) bundle_holds(web,stream,thing)",
     "verdicts": "verdict(web,stream) verdict_holds(web,stream,thing)",
+    "liking": "both_liked(fair,one,other)",
+    "rises": "most_by(web,door) rise(web,door)",
+    "texts": "web_text(web) stream_text(stream) read_web(thing) read_stream(web,thing)",
 }
 # Likewise of each class: its methods, which stand in the class itself.
 METHODS = {
@@ -37,6 +40,7 @@ METHODS = {
                        "tried(self,deeds,*,tell=None) log(self) web(self) deeds(self) calm(self) door_row(self) "
                        "change(self,road) verdict(self,stream) behind(self,number) twin(self) __len__(self) "
                        "__eq__(self,other) __str__(self)",
+    ("desks", "Desk"): "__init__(self,hall) say(self,line) said(self)",
 }
 BUILTIN_METHODS = set("""append copy count endswith extend find get index insert isalnum isalpha isascii isdigit items join keys
 lower pop remove replace setdefault split startswith strip upper values""".split())

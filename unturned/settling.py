@@ -27,7 +27,11 @@ def settle_back(fair):
 
 def trail(fair):
     """Rows (ties, many) that lead from noughts to settle(fair)."""
-    sharing = noughts(fair)
+    return rows_behind(fair, noughts(fair))
+
+
+def rows_behind(fair, sharing):
+    """Rows (ties, many) that lead on from this sharing until no giver has a tie to turn to."""
     rows = []
     row = next_row(fair, sharing)
     while row is not None:
