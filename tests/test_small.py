@@ -1,9 +1,11 @@
+import itertools
 import unittest
 
 from tests.made import (RING, all_lots, all_streams, any_web, calm_ones, dice_of, great_webs, is_int, many_rows,
                         plain_calms, ringing_webs, small_webs, swaps, unchanged, web_of)
 from unturned.bounds import GREAT, HOUSES, ROADS, SMALL
 from unturned.errors import TooMany, WebError
+from unturned.rooms import with_room
 from unturned.small import bears_at, calm_streams, many_lots, streams_of
 
 LINE = web_of(2, [(None, 0, 2), (0, 1, 3), (1, None, 1)])
@@ -30,6 +32,10 @@ def beyond_the_bound():
     yield web_of(1, [(None, 0, 0), (0, None, GREAT)])
     yield web_of(HOUSES, [(k % 8, (k + 1) % 8, GREAT) for k in range(ROADS)])
     yield swaps(GREAT)
+
+
+# Twelve doors of one house, by turns in and out: just SMALL choices.
+TWELVE = (((None, 0, 1), (0, None, 1)) * 6, ((1, 3, 5, 7, 9, 11),), ((0, 2, 4, 6, 8, 10),))
 
 
 class Streams(unittest.TestCase):
@@ -70,6 +76,41 @@ class Streams(unittest.TestCase):
         for web in at_the_bound():
             self.assertEqual(many_rows(web), SMALL)
             self.assertGreater(self.look_at(web), 0)
+
+    def test_twelve_doors(self):
+        self.assertEqual(many_rows(TWELVE), SMALL)
+        streams = unchanged(self, streams_of, TWELVE)
+        rows = itertools.product((0, 1), repeat=12)
+        self.assertEqual(streams, tuple(row for row in rows if sum(row[::2]) == sum(row[1::2])))
+        self.assertEqual(len(streams), 924)
+        self.assertEqual((streams[0], streams[1], streams[-1]), ((0,) * 12, (0,) * 10 + (1, 1), (1,) * 12))
+        self.assertEqual(unchanged(self, calm_streams, TWELVE), ((1,) * 12,))
+        self.assertEqual([unchanged(self, bears_at, TWELVE, road) for road in range(12)], [(1,)] * 12)
+        for wider in range(12):
+            web = with_room(TWELVE, wider, 2)
+            self.assert_refused(web)
+            # Without it the least liked door of the other side has nothing to go with.
+            narrower = with_room(TWELVE, wider, 0)
+            least = 10 if wider % 2 == 1 else 11
+            told = tuple(0 if road in (wider, least) else 1 for road in range(12))
+            self.assertEqual((calm_streams(narrower), bears_at(narrower, least)), ((told,), (0,)))
+
+    def test_great_rooms_at_the_bound(self):
+        # What lacks at one house is never taken for what another one has too much.
+        for first, second in itertools.product(range(3), repeat=2):
+            roads = [(first, (first + 1) % 3, 1023), (second, (second + 2) % 3, 3)]
+            self.look_at(web_of(3, roads))
+        self.assertEqual(streams_of(web_of(1, [(None, 0, SMALL - 1)])), ((0,),))
+        ring = web_of(2, [(0, 1, 63), (1, 0, 63)])
+        self.assertEqual(streams_of(ring), tuple((k, k) for k in range(64)))
+        self.assertEqual(bears_at(ring, 1), tuple(range(64)))
+
+    def test_webs_by_chance(self):
+        dice = dice_of(92)
+        for turn in range(150):
+            web = any_web(dice, dice.randint(1, 5), dice.randint(1, 9), 4, outside=dice.randint(1, 3))
+            if many_rows(web) <= 1000:
+                self.look_at(web)
 
     def test_too_many(self):
         for web in beyond_the_bound():

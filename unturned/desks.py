@@ -86,7 +86,7 @@ def thing_in(kind, word):
 
 
 def answer_or_refusal(hall, word, things):
-    """What the hall answers, or the class name of its refusal, which no object here tells by itself."""
+    """What the hall answers, or the class name of its refusal: an error can't be asked for it here."""
     try:
         return answer(hall, word, things)
     except BadOrder:

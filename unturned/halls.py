@@ -128,7 +128,7 @@ class Hall:
         self.webs = (web,)
         self.stood = ()
         self.busy = False
-        self.rows = []
+        self.logged = []
 
     def lay(self, begin, end, room):
         """One road more, the last, liked least at both ends."""
@@ -194,7 +194,7 @@ class Hall:
         # tell may change the list that was handed in.
         rows = list(deeds)
         webs, stood, many = self.webs, self.stood, 0
-        self.rows = self.rows[1 - LOG_ROWS:] + [("begin", len(rows))]
+        self.logged = self.logged[1 - LOG_ROWS:] + [("begin", len(rows))]
         self.busy = True
         try:
             for number, deed in enumerate(rows):
@@ -204,7 +204,7 @@ class Hall:
             webs, stood, many = self.webs, self.stood, len(rows)
         finally:
             self.webs, self.stood, self.busy = webs, stood, False
-            self.rows.append(("end", many))
+            self.logged.append(("end", many))
 
     def stand_tried(self, number, deed):
         """Does the deed of this number of those that are tried."""
@@ -215,7 +215,7 @@ class Hall:
 
     def log(self):
         """The last rows ("begin", how many) and ("end", how many of them stand)."""
-        return tuple(self.rows[-LOG_ROWS:])
+        return tuple(self.logged[-LOG_ROWS:])
 
     def web(self):
         """The web as it is."""

@@ -3,16 +3,13 @@
 from unturned.bounds import SMALL
 from unturned.errors import TooMany
 from unturned.lots import calms, is_calm
-from unturned.streams import streamfault
+from unturned.rooms import door_row
 
 
 def streams_of(web):
     """All streams, rising."""
     check_small(web)
-    rows = [()]
-    for begin, end, room in web[0]:
-        rows = [(*row, bears) for row in rows for bears in range(room + 1)]
-    return tuple([row for row in rows if streamfault(web, row) is None])
+    return streams_among(web, [range_to(room) for begin, end, room in web[0]])
 
 
 def check_small(web):
@@ -24,9 +21,53 @@ def check_small(web):
         raise TooMany(SMALL)
 
 
+def range_to(most):
+    """The numbers from 0 to most."""
+    return list(range(most + 1))
+
+
+def streams_among(web, choices):
+    """All streams with one of its choices, which rise, on each road, rising.
+
+    The first half of the roads is gone through, and beside it only what goes with it of the other half.
+    """
+    half = len(choices) // 2
+    steps = steps_of(web)
+    later = {}
+    for row, lack in rows_among(steps[half:], choices[half:]):
+        later.setdefault(-lack, []).append(row)
+    return tuple([row + rest for row, lack in rows_among(steps[:half], choices[:half]) for rest in later.get(lack, [])])
+
+
+def steps_of(web):
+    """For each road what one unit on it adds to the lack of all houses.
+
+    The lack of each house, what comes less what goes, has a place of its own in one number: it is never as
+    great as half a place, because the rooms together are less than SMALL.
+    """
+    places = {None: 0}
+    place = 1
+    for house in range(len(web[1])):
+        places[house] = place
+        place *= 2 * SMALL
+    return [places[end] - places[begin] for begin, end, room in web[0]]
+
+
+def rows_among(steps, choices):
+    """All rows with one of the choices for each step, rising, each with its lack."""
+    rows = [((), 0)]
+    for step, numbers in zip(steps, choices):
+        rows = [((*row, bears), lack + step * bears) for row, lack in rows for bears in numbers]
+    return rows
+
+
 def calm_streams(web):
     """All calm streams, rising."""
-    return tuple([stream for stream in streams_of(web) if is_calm(web, stream)])
+    check_small(web)
+    # All calm streams bear the same on each door, so that only the other roads are to be gone through.
+    fixed = dict(door_row(web))
+    choices = [[fixed[road]] if road in fixed else range_to(room) for road, (begin, end, room) in enumerate(web[0])]
+    return tuple([stream for stream in streams_among(web, choices) if is_calm(web, stream)])
 
 
 def many_lots(web, stream):
