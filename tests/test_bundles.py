@@ -175,6 +175,21 @@ class BundleHolds(unittest.TestCase):
         self.look(EIGHT, (1, 1, 1, 1), (((0, 1, 2, 3), 1),), False)
         self.look(EIGHT, (1, 1, 1, 1), (((0, 1, 2, 3), 1), ((0, 1), 1)), False)
 
+    def test_pieces_are_no_ways_and_no_rings(self):
+        for rows in [(((0, 1), 1), ((2,), 1)), (((0,), 1), ((1, 2), 1)), (((0,), 1), ((1,), 1), ((2,), 1))]:
+            self.look(LINE, (1, 1, 1), rows, False)
+            self.look(RING, (1, 1, 1), rows, False)
+        self.look(RING, (1, 1, 1), (((0, 1), 1), ((2, 0), 1)), False)
+
+    def test_rows_of_none_and_of_less_than_none(self):
+        self.look(LOOP, (2, 0, 0, 2), (((0, 3), 2),), True)
+        self.look(LOOP, (2, 0, 0, 2), (((0, 3), 2), ((1, 2), 0)), False)
+        gate = web_of(1, [(None, 0, 2), (None, 0, 2), (0, None, 2), (0, None, 2)])
+        self.look(gate, (1, 1, 1, 1), (((0, 2), 1), ((1, 3), 1)), True)
+        # Together they would bear what the stream bears.
+        self.look(gate, (1, 1, 1, 1), (((0, 2), 2), ((0, 3), -1), ((1, 2), -1), ((1, 3), 2)), False)
+        self.look(gate, (1, 1, 1, 1), (((0, 2), 1), ((0, 3), 0), ((1, 2), 0), ((1, 3), 1)), False)
+
     def test_a_house_twice(self):
         self.look(LOOP, (1, 1, 1, 1), (((0, 3), 1), ((1, 2), 1)), True)
         self.look(LOOP, (1, 1, 1, 1), (((0, 1, 2, 3), 1),), False)

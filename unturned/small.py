@@ -42,14 +42,14 @@ def streams_among(web, choices):
 def steps_of(web):
     """For each road what one unit on it adds to the lack of all houses.
 
-    The lack of each house, what comes less what goes, has a place of its own in one number: it is never as
-    great as half a place, because the rooms together are less than SMALL.
+    The lack of each house, what comes less what goes, has a place of its own in one number. It is less than
+    SMALL, as all rooms together are, so that the number is 0 only where nothing lacks at any house.
     """
     places = {None: 0}
     place = 1
     for house in range(len(web[1])):
         places[house] = place
-        place *= 2 * SMALL
+        place *= SMALL
     return [places[end] - places[begin] for begin, end, room in web[0]]
 
 

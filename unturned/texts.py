@@ -50,10 +50,8 @@ def stream_text(stream):
 def read_web(thing):
     """The web whose text it is."""
     check_text(thing)
+    # The empty line behind the last line end is never right, and its number is how many lines there are.
     lines = thing.split("\n")
-    # What stands behind the last line end is a line only if something does.
-    if lines[-1] == "":
-        lines.pop()
     houses = read_houses(lines)
     roads = read_roads(lines, houses)
     gives = read_orders(lines, 1 + len(roads), "give", [begin for begin, end, room in roads], houses)
@@ -74,7 +72,7 @@ def check_text(thing):
 def read_houses(lines):
     """How many houses there are by the first line."""
     for houses in range(1, HOUSES + 1):
-        if lines[:1] == [houses_line(houses)]:
+        if lines[0] == houses_line(houses):
             return houses
     raise NoText(0)
 
